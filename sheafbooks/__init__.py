@@ -1,0 +1,1 @@
+"""Sheafbooks: books bound of parts by settings."""
