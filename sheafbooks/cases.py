@@ -37,9 +37,12 @@ def cases_in_common(cases, others):
 
 def shows_cases(facets, when, thing):
     """Whether a thing is such a list as cases_of tells."""
-    if not isinstance(thing, list) or not all([is_case(facets, case) for case in thing]):
+    every = settings_in(whole_case(facets))
+    # No more cases than settings can be apart: so a list of any length is soon told.
+    if not isinstance(thing, list) or len(thing) > len(every):
+        return False
+    if not all([is_case(facets, case) for case in thing]):
         return False
     shown = [setting for case in thing for setting in settings_in(case)]
-    every = settings_in(whole_case(facets))
     # A setting that stands in two cases is twice in what is shown, so the lists differ then, too.
     return sorted(shown) == [setting for setting in every if holds(facets, when, setting)]

@@ -1,7 +1,7 @@
 """PARTs, their ELEMENTs and THINGs."""
 
 from sheafbooks.whens import is_when
-from sheafbooks.words import is_name, is_name_or_bare, is_text
+from sheafbooks.words import are_unlike, is_name, is_name_or_bare, is_text
 
 WORDS = ("text", "ref", "entry", "put")
 HOWS = ("number", "title")
@@ -39,11 +39,6 @@ def is_root(facets, root):
         names.append(thing[1])
         waiting.extend([(deep + 1, inner) for inner in thing[4]])
     return len(names) <= ELEMENTS_MOST and are_unlike([name for name in names if name != ""])
-
-
-def are_unlike(names):
-    """Whether no two names are the same."""
-    return len(set(names)) == len(names)
 
 
 def is_element(facets, thing):
@@ -96,6 +91,11 @@ def things_under(path, thing):
         for at, inner in enumerate(thing[4]):
             found.extend(things_under(path + (at,), inner))
     return found
+
+
+def elements_among(things):
+    """Those of the things that are elements, in order."""
+    return [thing for thing in things if thing[0] not in WORDS]
 
 
 def elements_of(part):

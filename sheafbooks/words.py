@@ -1,4 +1,4 @@
-"""What the other files have in common: the constants, NAMEs, TEXTs, and what rises."""
+"""What the other files have in common: the constants, NAMEs, TEXTs, what rises and what is unlike."""
 
 LONGEST = 400
 
@@ -30,3 +30,8 @@ def is_text(thing, most=TEXT_MOST):
 def rises(texts):
     """Whether each of the texts is above the one ahead."""
     return all([texts[at] < texts[at + 1] for at in range(len(texts) - 1)])
+
+
+def are_unlike(names):
+    """Whether no two names are the same."""
+    return len(set(names)) == len(names)

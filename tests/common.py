@@ -28,7 +28,7 @@ def nested(leaf, wrap, times):
 
 
 def odd_things():
-    """Things that are no FACETS, SETTING, CASE, WHEN, MODEL or PART, and no list of CASEs but []."""
+    """Things that are no FACETS, SETTING, CASE, WHEN, MODEL, PART or PLAN, no list of CASEs but [], no RULES but ()."""
     things = [None, True, False, 0, 1, -1, 10 ** 40, "", "a", "always", "none", "child", "\x00", "\ud800", "\u00e9"]
     things += [[], (), [()], ([],), ((),), [[]], [None], (None,), (True,), (1, 2), (1, 2, 3), (1, 2, 3, 4, 5)]
     things += [["always"], ["none"], "(always,)", ("always", "always"), ("none", "none"), (("always",),), (("none",),)]
@@ -60,18 +60,43 @@ def check_call(test, function, arguments):
     return told
 
 
+def lists_in(thing):
+    """Every list in what is told, itself too."""
+    found = [thing] if isinstance(thing, list) else []
+    if isinstance(thing, (list, tuple)):
+        for inner in thing:
+            found += lists_in(inner)
+    return found
+
+
 def check_own(test, function, arguments):
-    """A told list may be changed by the asker, and that changes no later answer."""
+    """Told lists may be changed by the asker, and that changes no other list and no later answer."""
     first = function(*[value for _, value in arguments])
     second = function(*[value for _, value in arguments])
     kept = copy.deepcopy(second)
-    if isinstance(first, list):
-        test.assertIsNot(first, second)
-        first.append("more")
-        first.reverse()
-        test.assertEqual(second, kept)
-        first.clear()
+    told = lists_in(first)
+    test.assertEqual(len({id(one) for one in told + lists_in(second)}), 2 * len(told))
+    for one in told:
+        one.append("more")
+        one.reverse()
+    test.assertEqual(second, kept)
+    for one in told:
+        one.clear()
     test.assertEqual(repr(function(*[value for _, value in arguments])), repr(kept))
+
+
+def check_refused(test, error, what, function, arguments):
+    """Refused by places and by names, each time, with that class and what; nothing handed in changes."""
+    before = repr(arguments)
+    for _ in range(2):
+        with test.assertRaises(error) as caught:
+            function(*[value for _, value in arguments])
+        test.assertIs(type(caught.exception), error)
+        test.assertEqual((caught.exception.what, type(caught.exception.what)), (what, type(what)))
+        with test.assertRaises(error) as caught:
+            function(**dict(reversed(arguments)))
+        test.assertEqual(caught.exception.what, what)
+    test.assertEqual(repr(arguments), before)
 
 
 def check_is(test, answer, wanted, thing):

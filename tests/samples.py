@@ -1,8 +1,42 @@
-"""WHENs and MODELs by chance (with a seed, so always the same), and what the document says of them."""
+"""Parts and plans as they are written, and WHENs, MODELs and MADE elements by chance (with a seed, so always the same),
+with what the document says of them."""
 
 import itertools
 
 ALWAYS = ("always",)
+NEVER = ("not", ALWAYS)
+TEXT = ("text", "some words")
+REF = ("ref", "other", "fig", "number")
+ENTRY = ("entry", "main", "sub")
+PUT = ("put", "other", "fig")
+PLAIN = (TEXT, REF, ENTRY)
+WORDS = ("text", "ref", "entry", "put")
+
+
+def element(*things, kind="sec", name="", when=ALWAYS, tie=""):
+    return (kind, name, when, tie, tuple(things))
+
+
+def part(*things, name="intro", title="On books", **more):
+    return (name, title, element(*things, **more))
+
+
+def made(*things, kind="sec", home=(), when=ALWAYS, tie=""):
+    """A MADE element."""
+    return (kind, home, when, tie, tuple(things))
+
+
+def node(name, *nodes, part="", when=ALWAYS, keys=()):
+    return (name, part, when, tuple(keys), tuple(nodes))
+
+
+def flat(thing, path=()):
+    """Pairs (path, thing) of a thing and of all in it, in order."""
+    told = [(path, thing)]
+    if thing[0] not in WORDS:
+        for at, inner in enumerate(thing[4]):
+            told += flat(inner, path + (at,))
+    return told
 
 
 def some_when(chance, facets, deep):
@@ -68,3 +102,72 @@ def rows_of(model, most):
         fresh = {one + other for one in fresh for other in inner[0] if len(one + other) <= most} - told
         told |= fresh
     return told
+
+
+def some_made(chance, facets, kinds, deep):
+    """A MADE element at most so deep, with things of all kinds but puts."""
+    when = ALWAYS if chance.random() < 0.5 else some_when(chance, facets, 3)
+    inner = []
+    if deep > 1 and chance.random() < 0.8:
+        inner = [some_made(chance, facets, kinds, deep - 1) for _ in range(chance.randint(0, 3))]
+    elif chance.random() < 0.5:
+        inner = [chance.choice(PLAIN) for _ in range(chance.randint(0, 2))]
+    tie = chance.choice(("", "", "a", "b"))
+    return (chance.choice(kinds), chance.choice(((), ("part", "name"))), when, tie, tuple(inner))
+
+
+def some_rules(chance, kinds):
+    """RULES of most of these kinds, often "words" or a MODEL that many rows fit."""
+    told = []
+    for kind in sorted(kinds):
+        shown = chance.choice(("words", "any", "any", "any", "model", "model", "out"))
+        any_row = ("many", ("either", ("kind", kinds[0]), ("either", ("kind", kinds[1]), ("kind", kinds[2]))))
+        rule = {"words": "words", "any": any_row, "model": some_model(chance, kinds, 4)}.get(shown)
+        told += [] if rule is None else [(kind, rule)]
+    return tuple(told)
+
+
+def left_paths(facets, whole, setting):
+    """The paths of the elements of a MADE one that are left."""
+    at = dict(flat(whole))
+    every = [path for path, thing in at.items() if thing[0] not in WORDS]
+    return {path for path in every
+            if all(setting in settings_where(facets, at[path[:deep]][2]) for deep in range(len(path) + 1))}
+
+
+def faults_as_written(facets, rules, whole, setting):
+    """The faults of a MADE element, worked out word by word from the sets of what is left."""
+    at = dict(flat(whole))
+    left = left_paths(facets, whole, setting)
+    told = []
+    for path in sorted(left):
+        kind, _, _, _, things = at[path]
+        inner = [path + (place,) for place, thing in enumerate(things) if thing[0] not in WORDS]
+        rule = dict(rules).get(kind)
+        stay = [one for one in inner if one in left]
+        wrong = {"kind": rule is None, "words": False, "row": False}
+        if rule == "words":
+            wrong["words"] = inner != []
+        elif rule is not None:
+            wrong["words"] = len(inner) != len(things)
+            wrong["row"] = tuple(at[one][0] for one in stay) not in rows_of(rule, len(stay))
+        ties = {at[one][3] for one in inner} - {""}
+        by_tie = {tie: {one in left for one in inner if at[one][3] == tie} for tie in ties}
+        wrong["tie"] = any(len(both) == 2 for both in by_tie.values())
+        told += [(path, word) for word in ("kind", "words", "row", "tie") if wrong[word]]
+    return told
+
+
+def some_plan(chance, facets, parts=("",), texts=("",), most=16):
+    """A PLAN within the bounds, its keys of few NAMEs and these texts."""
+    names = chance.sample("abcdefghijklmnopqrstuvwxyz", chance.randint(1, most))
+
+    def some(deep):
+        name = names.pop()
+        inner = []
+        while deep < 4 and names and chance.random() < 0.75:
+            inner.append(some(deep + 1))
+        when = some_when(chance, facets, 3) if chance.random() < 0.4 else ALWAYS
+        keys = [(key, chance.choice(texts)) for key in chance.sample("klmnop", chance.randint(0, 4))]
+        return node(name, *inner, part=chance.choice(parts), when=when, keys=keys)
+    return some(1)

@@ -26,6 +26,10 @@ INTERFACE = {
     "cases": "cases_of shows_cases",
     "models": "is_model kinds_of fits first_bad unlike_row",
     "parts": "is_part elements_of things_of named",
+    "puts": "lost_puts ring_of_puts shows_ring put_in how_great",
+    "lawful": "is_rules left_in faults_in",
+    "judging": "judged shows_lawful shows_unlawful",
+    "plans": "is_plan nodes_of node_at way_to nodes_left",
 }
 
 

@@ -6,22 +6,9 @@ import unittest
 from sheafbooks.parts import elements_of, is_part, named, things_of
 from tests.common import (FACETS_FOUR, FACETS_ONE, FACETS_TWO, as_list_at_each_depth, check_call, check_is, nested,
                           odd_things)
+from tests.samples import ALWAYS, ENTRY, PLAIN, PUT, REF, TEXT, element, part
 
-ALWAYS = ("always",)
 CHILD = ("is", "who", ("child",))
-TEXT = ("text", "some words")
-REF = ("ref", "other", "fig", "number")
-ENTRY = ("entry", "main", "sub")
-PUT = ("put", "other", "fig")
-PLAIN = (TEXT, REF, ENTRY)
-
-
-def element(*things, kind="sec", name="", when=ALWAYS, tie=""):
-    return (kind, name, when, tie, tuple(things))
-
-
-def part(*things, name="intro", title="On books", **more):
-    return (name, title, element(*things, **more))
 
 
 def chain(deep, *things):

@@ -43,6 +43,10 @@ class Words(unittest.TestCase):
                             (("a", "b", "b"), False), (("a", "aa", "b"), True), (("b", "a", "c"), False)):
             self.assertIs(words.rises(row), wanted, row)
 
+    def test_unlike(self):
+        for row, wanted in (([], True), (["a"], True), (["a", "b"], True), (["a", "b", "a"], False), (["", ""], False)):
+            self.assertIs(words.are_unlike(row), wanted, row)
+
 
 if __name__ == "__main__":
     unittest.main()
