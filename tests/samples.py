@@ -39,6 +39,14 @@ def flat(thing, path=()):
     return told
 
 
+def flat_nodes(plan, above=""):
+    """Pairs (NODE, name of the one above) of a PLAN's nodes, in order."""
+    told = [(plan, above)]
+    for inner in plan[4]:
+        told += flat_nodes(inner, plan[0])
+    return told
+
+
 def some_when(chance, facets, deep):
     """A WHEN at most so deep, of however many parts."""
     word = chance.choice(("always", "is", "is", "not", "both", "either", "both", "either")) if deep > 1 else "is"
@@ -171,3 +179,13 @@ def some_plan(chance, facets, parts=("",), texts=("",), most=16):
         keys = [(key, chance.choice(texts)) for key in chance.sample("klmnop", chance.randint(0, 4))]
         return node(name, *inner, part=chance.choice(parts), when=when, keys=keys)
     return some(1)
+
+
+def growing(chance, plan):
+    """The PLAN with other TEXTs of its keys k to p, each with marks of NAMEs behind its own alone: so without a ring."""
+    keys = []
+    for name, _ in plan[3]:
+        behind = "klmnopz"["klmnop".index(name) + 1:]
+        marks = [f"<{chance.choice(behind)}>" for _ in range(chance.randint(0, 8))]
+        keys.append((name, "".join(marks) + "x" * chance.randint(0, 16)))
+    return plan[:3] + (tuple(keys), tuple(growing(chance, inner) for inner in plan[4]))

@@ -30,6 +30,9 @@ INTERFACE = {
     "lawful": "is_rules left_in faults_in",
     "judging": "judged shows_lawful shows_unlawful",
     "plans": "is_plan nodes_of node_at way_to nodes_left",
+    "keys": "marks_in key_at ring_of_keys shows_key_ring worth_at lost_keys",
+    "soundness": "unsound",
+    "books": "book_of number_text",
 }
 
 
