@@ -2,6 +2,7 @@
 
 from sheafbooks.keys import worth_at
 from sheafbooks.lawful import left_in
+from sheafbooks.parts import WORDS, things_under
 from sheafbooks.plans import node_at, nodes_left, nodes_of
 from sheafbooks.puts import part_called, put_in
 
@@ -36,6 +37,22 @@ def chapter_at(facets, parts, plan, setting, node, number):
     name, title, root = part_called(parts, node_at(plan, node)[1])
     element = left_in(facets, put_in(parts, name), setting)
     return (node, number, name, worth_at(plan, node, title), element)
+
+
+def things_left(element):
+    """The pairs (path, thing) of what is left of an element, it too, in order; none of None."""
+    return [] if element is None else things_under((), element)
+
+
+def elements_left(element):
+    """The pairs (path, element) of what is left of an element, it too, in order; none of None."""
+    return [(path, thing) for path, thing in things_left(element) if thing[0] not in WORDS]
+
+
+def things_in_book(book, word):
+    """The triples (chapter, path, thing) of a book's things of that word, in order."""
+    things = [(chapter, path, thing) for chapter in book for path, thing in things_left(chapter[4])]
+    return [(chapter, path, thing) for chapter, path, thing in things if thing[0] == word]
 
 
 def number_text(number):

@@ -1,6 +1,6 @@
 """FACETS, and the SETTINGs and CASEs of them."""
 
-from sheafbooks.words import is_name, rises
+from sheafbooks.words import are_rising_pairs, is_name, rises
 
 FACETS_MOST = 4
 WORDS_LEAST = 2
@@ -9,19 +9,7 @@ WORDS_MOST = 4
 
 def is_facets(thing):
     """Whether a thing is FACETS."""
-    if not isinstance(thing, tuple) or not 1 <= len(thing) <= FACETS_MOST:
-        return False
-    if not all([is_facet(pair) for pair in thing]):
-        return False
-    return rises([name for name, words in thing])
-
-
-def is_facet(thing):
-    """Whether a thing is a pair (facet, words) of FACETS."""
-    if not isinstance(thing, tuple) or len(thing) != 2:
-        return False
-    name, words = thing
-    return is_name(name) and are_words(words)
+    return thing != () and are_rising_pairs(thing, FACETS_MOST, are_words)
 
 
 def are_words(thing):

@@ -3,24 +3,19 @@
 from sheafbooks.models import fits, is_model
 from sheafbooks.parts import WORDS, elements_among
 from sheafbooks.whens import holds
-from sheafbooks.words import is_name, rises
+from sheafbooks.words import are_rising_pairs
 
 RULES_MOST = 8
 
 
 def is_rules(thing):
     """Whether a thing is RULES."""
-    if not isinstance(thing, tuple) or len(thing) > RULES_MOST:
-        return False
-    return all([is_ruled(pair) for pair in thing]) and rises([kind for kind, rule in thing])
+    return are_rising_pairs(thing, RULES_MOST, is_rule)
 
 
-def is_ruled(thing):
-    """Whether a thing is a pair (kind, rule) of RULES."""
-    if not isinstance(thing, tuple) or len(thing) != 2:
-        return False
-    kind, rule = thing
-    return is_name(kind) and (rule == "words" or is_model(rule))
+def is_rule(thing):
+    """Whether a thing is a rule of RULES."""
+    return thing == "words" or is_model(thing)
 
 
 def left_in(facets, element, setting):

@@ -2,7 +2,7 @@
 
 from sheafbooks.errors import NoNode
 from sheafbooks.whens import holds, is_when
-from sheafbooks.words import are_unlike, is_name, is_name_or_bare, is_text
+from sheafbooks.words import are_unlike, is_name, is_name_or_bare, is_named_pair, is_text
 
 NODES_MOST = 16
 NODES_DEEP = 4
@@ -37,12 +37,7 @@ def are_keys(thing):
     """Whether a thing is such keys as a NODE may have."""
     if not isinstance(thing, tuple) or len(thing) > KEYS_MOST:
         return False
-    return all([is_key(pair) for pair in thing]) and are_unlike([name for name, text in thing])
-
-
-def is_key(thing):
-    """Whether a thing is a pair (NAME, TEXT)."""
-    return isinstance(thing, tuple) and len(thing) == 2 and is_name(thing[0]) and is_text(thing[1])
+    return all([is_named_pair(pair, is_text) for pair in thing]) and are_unlike([name for name, text in thing])
 
 
 def ways_in(plan):

@@ -27,6 +27,20 @@ def is_text(thing, most=TEXT_MOST):
     return all([" " <= sign <= "~" and ord(sign) != PERCENT for sign in thing])
 
 
+def is_named_pair(thing, is_worth):
+    """Whether a thing is a pair of a NAME and something that is_worth tells True of."""
+    return isinstance(thing, tuple) and len(thing) == 2 and is_name(thing[0]) and is_worth(thing[1])
+
+
+def are_rising_pairs(thing, most, is_worth):
+    """Whether a thing is a tuple of at most so many such pairs, their NAMEs rising."""
+    if not isinstance(thing, tuple) or len(thing) > most:
+        return False
+    if not all([is_named_pair(pair, is_worth) for pair in thing]):
+        return False
+    return rises([name for name, worth in thing])
+
+
 def rises(texts):
     """Whether each of the texts is above the one ahead."""
     return all([texts[at] < texts[at + 1] for at in range(len(texts) - 1)])

@@ -189,3 +189,98 @@ def growing(chance, plan):
         marks = [f"<{chance.choice(behind)}>" for _ in range(chance.randint(0, 8))]
         keys.append((name, "".join(marks) + "x" * chance.randint(0, 16)))
     return plan[:3] + (tuple(keys), tuple(growing(chance, inner) for inner in plan[4]))
+
+
+KINDS = ("fig", "note", "para", "sec")
+PART_NAMES = ("a", "b", "c")
+ELEMENT_NAMES = ("x", "y", "z")
+MAINS = ("Ink", "ink", "inks", "paper", "Paper", "Zeal", "<k>")
+SUBS = ("", "", "red", "Red", "black")
+BOOK_TEXTS = ("", "plain", "<k> and <l>", "<lost>", "plain", "<")
+
+
+def some_left(chance, deep):
+    """A MADE element at most so deep, with homes, texts, refs and entries of few names."""
+    home = (chance.choice(PART_NAMES), chance.choice(ELEMENT_NAMES)) if chance.random() < 0.5 else ()
+    inner = []
+    if deep > 1 and chance.random() < 0.7:
+        inner = [some_left(chance, deep - 1) for _ in range(chance.choice((0, 1, 2, 3, 3, 11)))]
+    elif chance.random() < 0.8:
+        inner = [some_words(chance) for _ in range(chance.randint(1, 4))]
+    return made(*inner, kind=chance.choice(KINDS), home=home)
+
+
+def some_words(chance):
+    """A text, a ref or an entry."""
+    return chance.choice((
+        ("text", chance.choice(BOOK_TEXTS)),
+        ("ref", chance.choice(PART_NAMES + ("gone",)), chance.choice(ELEMENT_NAMES + ("", "lost")),
+         chance.choice(("number", "title"))),
+        ("entry", chance.choice(MAINS), chance.choice(SUBS))))
+
+
+def some_book(chance):
+    """A list of CHAPTERs of unlike nodes and numbers, in any order, and a PLAN with those nodes."""
+    pool = [(first,) for first in (1, 2, 3, 10, 12)] + [(1, 1), (1, 2), (1, 10), (2, 1), (10, 1), (10, 1, 3), (1, 1, 1)]
+    many = chance.randint(0, 6)
+    nodes = chance.sample(("one", "two", "three", "four", "five", "six", "seven"), many)
+    book = []
+    for name, number in zip(nodes, chance.sample(pool, many)):
+        body = None if chance.random() < 0.15 else some_left(chance, 3)
+        book.append((name, number, chance.choice(PART_NAMES), chance.choice(("On ink", "", "Title")), body))
+    keys = (("k", "K"), ("l", "<k><k>"))
+    plan = node("top", *[node(name, keys=[("k", name)] * (at % 2)) for at, name in enumerate(nodes)], keys=keys)
+    return book, plan
+
+
+def some_counts(chance):
+    """COUNTS of some of KINDS and of the words of other things."""
+    kinds = sorted(chance.sample(KINDS + ("text", "ref", "entry", "put"), chance.randint(0, 6)))
+    return tuple((kind, chance.choice(("book", "chapter", "own"))) for kind in kinds)
+
+
+def things_left(book, *words):
+    """Triples (chapter, path, thing) of a book's things of these words, of its elements without words."""
+    every = [(chapter, path, thing) for chapter in book if chapter[4] is not None for path, thing in flat(chapter[4])]
+    return [one for one in every if (one[2][0] in words if words else one[2][0] not in WORDS)]
+
+
+def numbers_as_written(book, counts):
+    """What numbers_of tells, each number counted anew from the whole list of elements."""
+    every = things_left(book)
+    told = []
+    for at, (chapter, path, thing) in enumerate(every):
+        how = dict(counts).get(thing[0])
+        ahead = [other for other, _, one in every[:at + 1] if one[0] == thing[0]]
+        dotted = ".".join(map(str, chapter[1]))
+        if how == "book":
+            told.append((chapter[0], path, f"{len(ahead)}"))
+        elif how == "chapter":
+            same = [other for other in ahead if other[1][0] == chapter[1][0]]
+            told.append((chapter[0], path, f"{chapter[1][0]}-{len(same)}"))
+        elif how == "own":
+            told.append((chapter[0], path, f"{dotted}-{len([o for o in ahead if o[0] == chapter[0]])}"))
+    return told
+
+
+def meant_as_written(book, part, name):
+    """What meant_by tells, by looking at all that could be meant."""
+    if name == "":
+        found = [(chapter[0], ()) for chapter in book if chapter[2] == part]
+    else:
+        found = [(chapter[0], path) for chapter, path, thing in things_left(book) if thing[1] == (part, name)]
+    return found[0] if found else None
+
+
+def ref_as_written(book, counts, ref):
+    """What ref_text tells."""
+    _, part, name, how = ref
+    meant = meant_as_written(book, part, name)
+    if meant is None:
+        return None
+    chapter = [one for one in book if one[0] == meant[0]][0]
+    if how == "title":
+        return chapter[3]
+    numbers = {(node, path): text for node, path, text in numbers_as_written(book, counts)}
+    dotted = ".".join(map(str, chapter[1]))
+    return dotted if name == "" else numbers.get(meant, dotted)

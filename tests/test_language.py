@@ -33,6 +33,10 @@ INTERFACE = {
     "keys": "marks_in key_at ring_of_keys shows_key_ring worth_at lost_keys",
     "soundness": "unsound",
     "books": "book_of number_text",
+    "numbers": "is_counts numbers_of",
+    "refs": "meant_by ref_text lost_refs",
+    "indexes": "index_of sees",
+    "reads": "reads_of rows_by index_rows",
 }
 
 
