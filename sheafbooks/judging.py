@@ -4,9 +4,7 @@ from sheafbooks.cases import cases_in_common, cases_of, cases_without, shows_cas
 from sheafbooks.facets import is_setting, settings_in, whole_case
 from sheafbooks.lawful import faults_in
 from sheafbooks.parts import elements_among
-from sheafbooks.whens import told_in
-
-ALWAYS = ("always",)
+from sheafbooks.whens import ALWAYS, told_in
 
 
 def judged(facets, rules, element):

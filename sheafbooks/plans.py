@@ -81,3 +81,10 @@ def nodes_left(facets, plan, setting):
     """The names of the NODEs whose WHEN holds, and those of all above them do."""
     ways = ways_in(plan)
     return [way[-1][0] for way in ways if all([holds(facets, node[2], setting) for node in way])]
+
+
+def exchanged_node(plan, name, change):
+    """The PLAN with what change makes of the NODE of that name in its place."""
+    if plan[0] == name:
+        return change(plan)
+    return plan[:4] + (tuple([exchanged_node(inner, name, change) for inner in plan[4]]),)

@@ -6,6 +6,7 @@ from sheafbooks.trees import is_tree, parts_in
 WHEN_PARTS = 8
 WHEN_DEEP = 4
 BRANCHES = (("not", 1), ("both", 2), ("either", 2))
+ALWAYS = ("always",)
 
 
 def is_when(facets, thing):
@@ -17,7 +18,7 @@ def is_when(facets, thing):
 
 def is_when_leaf(facets, thing):
     """Whether a tuple is a WHEN without others in it."""
-    if thing == ("always",):
+    if thing == ALWAYS:
         return True
     if len(thing) != 3 or thing[0] != "is":
         return False

@@ -2,6 +2,7 @@
 
 import ast
 import builtins
+import functools
 import io
 import pathlib
 import re
@@ -37,13 +38,24 @@ INTERFACE = {
     "refs": "meant_by ref_text lost_refs",
     "indexes": "index_of sees",
     "reads": "reads_of rows_by index_rows",
+    "maker": "Maker",
+    "house": "House",
+    "texts": "part_text part_in",
+    "desk": "answers",
 }
+CLASSES = {
+    "Maker": "make kept reads forget twin __init__ __eq__ __len__",
+    "House": """part drop node unnode set_keys edition end make undo parts plan editions book entries lost rows
+        lawful_in_all deeds as_of twin log is_open __init__ __eq__ __len__""",
+}
+UNDERSCORED = ("__init__", "__eq__", "__len__")
 
 
 def files():
     return sorted(path for path in PACKAGE.iterdir() if path.name != "__pycache__")
 
 
+@functools.cache
 def parsed():
     return [(path, path.read_text(encoding="utf-8"), ast.parse(path.read_text(encoding="utf-8"))) for path in files()]
 
@@ -60,6 +72,8 @@ def bound(tree):
             told.append((node.id, node.lineno))
         elif isinstance(node, ast.alias):
             told.append((node.asname or node.name, node.lineno))
+        elif isinstance(node, ast.ExceptHandler) and node.name:
+            told.append((node.name, node.lineno))
     return told
 
 
@@ -124,15 +138,29 @@ class Language(unittest.TestCase):
                 known = isinstance(node, (ast.ImportFrom, ast.FunctionDef, ast.ClassDef, ast.Assign))
                 self.assertTrue(docstring or known, path.name)
                 if isinstance(node, ast.Assign):
-                    ast.literal_eval(node.value)
+                    self.check_plain(node, tree)
             names = module_names(tree)
             self.assertEqual(len(names), len(set(names)), path.name)
+
+    def check_plain(self, assigned, tree):
+        """A module-level value is plain, or a table of functions that are defined above it."""
+        above = [node.name for node in tree.body if isinstance(node, ast.FunctionDef) and node.lineno < assigned.lineno]
+        table = assigned.value
+        if isinstance(table, ast.Dict) and all(isinstance(one, ast.Name) for one in table.values):
+            self.assertTrue({one.id for one in table.values} <= set(above))
+            self.assertTrue(all(isinstance(one, ast.Constant) for one in table.keys))
+        else:
+            ast.literal_eval(table)
 
     def test_statements(self):
         for where, node in self.each(ast.stmt):
             self.assertIsInstance(node, STATEMENTS, where)
-        for where, node in self.each((ast.GeneratorExp, ast.Yield, ast.Div, ast.JoinedStr, ast.Starred)):
-            self.assertTrue(isinstance(node, ast.Starred) and isinstance(node.ctx, ast.Store), where)
+        handed = [star.value for _, call in self.each(ast.Call) for star in call.args if isinstance(star, ast.Starred)]
+        self.assertTrue(all(isinstance(one, ast.Name) for one in handed))
+        for where, node in self.each((ast.GeneratorExp, ast.Yield, ast.Div, ast.JoinedStr)):
+            self.fail(where)
+        stars = [node for _, node in self.each(ast.Starred) if isinstance(node.ctx, ast.Load)]
+        self.assertEqual(len(stars), len(handed))
         for where, node in self.each(ast.FunctionDef):
             self.assertEqual(node.decorator_list, [], where)
 
@@ -142,7 +170,7 @@ class Language(unittest.TestCase):
             owned += [alias.name for node in tree.body if isinstance(node, ast.ImportFrom) for alias in node.names]
             for name, line in bound(tree):
                 where = f"{path.name}:{line} {name}"
-                self.assertTrue(name == "__init__" or re.fullmatch("[A-Za-z][A-Za-z0-9_]*", name), where)
+                self.assertTrue(name in UNDERSCORED or re.fullmatch("[A-Za-z][A-Za-z0-9_]*", name), where)
                 self.assertNotIn(name, dir(builtins), where)
                 self.assertNotIn(name, NAMES, where)
             for function in [node for node in ast.walk(tree) if isinstance(node, ast.FunctionDef)]:
@@ -152,13 +180,55 @@ class Language(unittest.TestCase):
                 self.assertFalse(set(local) & set(owned), f"{path.name} {function.name}")
 
     def test_builtins_and_methods(self):
+        methods = METHODS | self.own_methods()
         for path, text, tree in parsed():
             here = {name for name, line in bound(tree)}
             for node in ast.walk(tree):
                 if isinstance(node, ast.Name) and node.id not in here:
                     self.assertIn(node.id, BUILTINS, f"{path.name}:{node.lineno}")
                 if isinstance(node, ast.Call) and isinstance(node.func, ast.Attribute):
-                    self.assertIn(node.func.attr, METHODS, f"{path.name}:{node.lineno}")
+                    self.assertIn(node.func.attr, methods, f"{path.name}:{node.lineno}")
+
+    def own_methods(self):
+        classes = [node for _, node in self.each(ast.ClassDef)]
+        return {one.name for node in classes for one in node.body if isinstance(one, ast.FunctionDef)}
+
+    def test_methods_and_attributes(self):
+        """No name is both (L18), attributes that are read are assigned somewhere, methods are called where they stand."""
+        own = self.own_methods()
+        assigned = {node.attr for _, node in self.each(ast.Attribute) if not isinstance(node.ctx, ast.Load)}
+        self.assertFalse(assigned & (own | METHODS))
+        called = {node.func for _, node in self.each(ast.Call)}
+        for where, node in self.each(ast.Attribute):
+            if node not in called:
+                self.assertIn(node.attr, assigned, where)
+        for name in own - set(UNDERSCORED):
+            self.assertFalse(any(hasattr(kind, name) for kind in (str, int, list, dict, set, bytes, tuple)), name)
+
+    def test_classes(self):
+        for where, node in self.each(ast.ClassDef):
+            for one in node.body:
+                docstring = isinstance(one, ast.Expr) and isinstance(one.value, ast.Constant)
+                self.assertTrue(docstring or isinstance(one, ast.FunctionDef), where)
+        for where, node in self.each(ast.FunctionDef):
+            changing = [one for one in ast.walk(node) if isinstance(one, (ast.Assign, ast.AugAssign, ast.Delete))]
+            if node.name in ("__eq__", "__len__"):
+                self.assertEqual(changing, [], where)
+                self.assertIsInstance(node.body[-1], ast.Return, where)
+            if node.name == "__len__":
+                self.assertEqual(node.body[-1].value.func.id, "len", where)
+
+    def test_finally_and_handlers(self):
+        """A finally appends a plain tuple alone; what is caught is an own error."""
+        errors = set(INTERFACE["errors"].split())
+        for where, node in self.each(ast.Try):
+            for one in node.finalbody:
+                self.assertEqual((one.value.func.attr, type(one.value.args[0])), ("append", ast.Tuple), where)
+                self.assertTrue(all(isinstance(x, (ast.Constant, ast.Name)) for x in one.value.args[0].elts), where)
+            for handler in node.handlers:
+                self.assertIn(handler.type.id, errors, where)
+        for where, node in self.each(ast.Raise):
+            self.assertIn(node.exc.func.id, errors, where)
 
     def test_words_that_do_not_occur(self):
         for path, text, tree in parsed():
@@ -184,6 +254,13 @@ class Language(unittest.TestCase):
             defined = [node.name for node in tree.body if isinstance(node, (ast.FunctionDef, ast.ClassDef))]
             for one in wanted.split():
                 self.assertIn(one, defined, name)
+
+    def test_interface_of_classes(self):
+        for _, node in self.each(ast.ClassDef):
+            defined = [one.name for one in node.body if isinstance(one, ast.FunctionDef)]
+            self.assertEqual(len(defined), len(set(defined)))
+            self.assertTrue(set(CLASSES.get(node.name, "").split()) <= set(defined), node.name)
+        self.assertTrue(set(CLASSES) <= {node.name for _, node in self.each(ast.ClassDef)})
 
 
 if __name__ == "__main__":
